@@ -493,6 +493,7 @@ func corner(t *testing.T, v api.Vec, w, h int) api.Corner {
 // P10.5: a vertex times a whole number above 0 has the same corner.
 func TestTimes(t *testing.T) {
 	r := rand.New(rand.NewSource(4))
+	more := 0
 	for range 20000 {
 		v := some(r)
 		w, h := size(r)
@@ -502,6 +503,12 @@ func TestTimes(t *testing.T) {
 		if corner(t, u, w, h) != corner(t, v, w, h) {
 			t.Fatal(v, times, w, h)
 		}
+		if times > 1 {
+			more++
+		}
+	}
+	if more < 10000 {
+		t.Error(more)
 	}
 }
 
@@ -530,6 +537,7 @@ func TestRange(t *testing.T) {
 // P10.5: farther to the right no less X, farther up no greater Y, deeper no less Z.
 func TestFarther(t *testing.T) {
 	r := rand.New(rand.NewSource(6))
+	compared := 0
 	for range 20000 {
 		v, u := some(r), some(r)
 		u[3] = v[3]
@@ -539,6 +547,7 @@ func TestFarther(t *testing.T) {
 		if !seenWanted(u) {
 			continue
 		}
+		compared++
 		w, h := size(r)
 		c, d := corner(t, v, w, h), corner(t, u, w, h)
 		for _, ends := range []struct{ from, to, a, b int64 }{{v[0], u[0], c.X, d.X}, {v[1], u[1], -c.Y, -d.Y}, {v[2], u[2], c.Z, d.Z}} {
@@ -546,6 +555,9 @@ func TestFarther(t *testing.T) {
 				t.Fatal(v, u, w, h)
 			}
 		}
+	}
+	if compared < 10000 {
+		t.Error(compared)
 	}
 }
 
